@@ -1,0 +1,1 @@
+"""Flagsteps: changing switches one at a time."""
