@@ -1,6 +1,6 @@
-"""Tests of values that come from outside: names, clauses, numbers and states."""
+"""Tests of values that come from outside: names, clauses, numbers, states and single switches."""
 
-from flagsteps.errors import InvalidRules, InvalidState
+from flagsteps.errors import InvalidRules, InvalidState, UnknownSwitch
 
 LETTERS = "abcdefghijklmnopqrstuvwxyz"
 WORDS = ("needs", "excludes", "either")
@@ -55,3 +55,9 @@ def check_state(names, state):
         if name not in later:
             raise InvalidState(index)
         later = later[later.index(name) + 1:]
+
+
+def check_switch(names, name):
+    """Raise UnknownSwitch if the argument is not one of the switches with these names."""
+    if name not in names:
+        raise UnknownSwitch(name)

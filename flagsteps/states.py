@@ -1,4 +1,4 @@
-"""The legal states of rules."""
+"""The legal states of rules, and what single switches make of a state."""
 
 from itertools import combinations
 
@@ -10,6 +10,16 @@ def check_legal(rules, state):
     broken = rules.broken_clauses(state)
     if broken:
         raise IllegalState(broken[0])
+
+
+def differing(names, state, other):
+    """The list of the switches in which two states differ, in the order of the names."""
+    return [name for name in names if (name in state) != (name in other)]
+
+
+def switched(names, state, changes):
+    """The state after each of these switches has been changed once."""
+    return tuple([name for name in names if (name in state) != (name in changes)])
 
 
 def all_states(names):

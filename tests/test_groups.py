@@ -6,41 +6,8 @@ import unittest
 from flagsteps.errors import IllegalState, Impossible, InvalidState
 from flagsteps.groups import bound_groups, constants, settings
 from flagsteps.rules import Rules
-from tests.helpers import (NO_NAMES, TEN_NAMES, VALUES_OF_ALL_KINDS, Case, expected_legal, mixed_rules,
-                           rules_with_pairs_of_clauses)
-
-
-def equal(first, second):
-    return (("needs", first, second), ("needs", second, first))
-
-
-def opposite(first, second):
-    return (("either", first, second), ("excludes", first, second))
-
-
-def expected_constants(rules):
-    found = {}
-    for name in rules.names:
-        values = {name in state for state in expected_legal(rules)}
-        if len(values) == 1:
-            found[name] = values.pop()
-    return found
-
-
-def expected_groups(rules):
-    """The bound groups, with each pair of switches compared in each legal state."""
-    states = expected_legal(rules)
-    others = [name for name in rules.names if name not in expected_constants(rules)]
-    found = []
-    for first in others:
-        group = []
-        for name in others:
-            agreements = {(first in state) == (name in state) for state in states}
-            if len(agreements) == 1:
-                group.append((name, agreements.pop()))
-        if len(group) > 1 and group[0][0] == first:
-            found.append(tuple(group))
-    return found
+from tests.helpers import (NO_NAMES, TEN_NAMES, VALUES_OF_ALL_KINDS, Case, equal, expected_constants, expected_groups,
+                           expected_legal, mixed_rules, opposite, rules_with_pairs_of_clauses)
 
 
 class ExamplesTest(Case):

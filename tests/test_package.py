@@ -1,6 +1,7 @@
 """The files of the package: the interface that has landed, and what can be seen of the language rules."""
 
 import ast
+import builtins
 import os
 import unittest
 
@@ -18,6 +19,33 @@ INTERFACE = {
                            "is_legal")},
     "states.py": {"legal_states": None, "count_legal": None, "majority": None},
     "groups.py": {"constants": None, "bound_groups": None, "settings": None},
+    "islands.py": {"Island": ("settings", "first", "size", "states"), "islands": None, "count_islands": None,
+                   "island_of": None, "same_island": None},
+    "ways.py": {"order_pairs": None, "find_way": None, "is_circle": None, "all_ways": None, "count_ways": None,
+                "must_precede": None, "states_on_way": None},
+    "rounds.py": {"find_rounds": None, "fewest_rounds": None, "round_range": None, "find_batches": None,
+                  "least_batch": None},
+    "rollout.py": {"Rollout": ("__init__", "state", "target", "history", "remaining", "change", "attempt", "advance",
+                               "undo", "redo", "resumed", "__enter__", "__exit__")},
+}
+# The arguments as the interface writes them, without self and cls.
+ARGUMENTS = {
+    "rules.py": {"Rules.__init__": "names, clauses", "Rules.free": "*names", "Rules.with_clause": "clause",
+                 "Rules.without_clause": "index", "Rules.broken_clauses": "state", "Rules.is_legal": "state"},
+    "states.py": {"legal_states": "rules", "count_legal": "rules", "majority": "rules, *states"},
+    "groups.py": {"constants": "rules", "bound_groups": "rules", "settings": "rules, state"},
+    "islands.py": {"islands": "rules", "count_islands": "rules", "island_of": "rules, state",
+                   "same_island": "rules, state, other"},
+    "ways.py": {"order_pairs": "rules, start, goal", "find_way": "rules, start, goal",
+                "is_circle": "rules, start, goal, circle", "all_ways": "rules, start, goal",
+                "count_ways": "rules, start, goal", "must_precede": "rules, start, goal, first, later",
+                "states_on_way": "rules, start, way"},
+    "rounds.py": {"find_rounds": "rules, start, goal", "fewest_rounds": "rules, start, goal",
+                  "round_range": "rules, start, goal, name", "find_batches": "rules, start, goal",
+                  "least_batch": "rules, start, goal"},
+    "rollout.py": {"Rollout.__init__": "rules, state, *, goal=None", "Rollout.change": "*names",
+                   "Rollout.attempt": "*names", "Rollout.advance": "count=1", "Rollout.undo": "", "Rollout.redo": "",
+                   "Rollout.resumed": "rules, state, changes, *, goal=None"},
 }
 LIBRARY = {"itertools": {"combinations"}}
 DECORATORS = {"property", "classmethod", "staticmethod"}
@@ -37,6 +65,31 @@ def nodes_of(name):
     return list(ast.walk(ast.parse(text_of(name))))
 
 
+def functions_with_arguments(body):
+    """The arguments of all functions and methods, these without the first one."""
+    found = {}
+    for node in body:
+        if isinstance(node, ast.FunctionDef):
+            found[node.name] = ast.unparse(node.args)
+        elif isinstance(node, ast.ClassDef):
+            for name, arguments in functions_with_arguments(node.body).items():
+                found[f"{node.name}.{name}"] = ", ".join(arguments.split(", ")[1:])
+    return found
+
+
+def bound_names(name):
+    """All names that a file binds: its functions, classes, parameters and variables."""
+    found = set()
+    for node in nodes_of(name):
+        if isinstance(node, ast.ClassDef):
+            found.add(node.name)
+        elif isinstance(node, ast.arg):
+            found.add(node.arg)
+        elif isinstance(node, ast.Name) and isinstance(node.ctx, ast.Store):
+            found.add(node.id)
+    return found | {node.name for node in ast.parse(text_of(name)).body if isinstance(node, ast.FunctionDef)}
+
+
 class InterfaceTest(unittest.TestCase):
     def test_each_name_is_defined_in_its_file(self):
         for file, expected in INTERFACE.items():
@@ -50,6 +103,13 @@ class InterfaceTest(unittest.TestCase):
                     else:
                         own = {node.name for node in classes[name].body if isinstance(node, ast.FunctionDef)}
                         self.assertLessEqual(set(methods), own)
+
+    def test_arguments(self):
+        for file, expected in ARGUMENTS.items():
+            found = functions_with_arguments(ast.parse(text_of(file)).body)
+            for name, arguments in expected.items():
+                with self.subTest(f"{file} {name}"):
+                    self.assertEqual(found[name], arguments)
 
 
 class LanguageTest(unittest.TestCase):
@@ -79,6 +139,20 @@ class LanguageTest(unittest.TestCase):
                     self.assertEqual([node.level, [each.asname for each in node.names if each.asname]], [0, []])
                     if not node.module.startswith("flagsteps."):
                         self.assertLessEqual(words, LIBRARY[node.module], name)
+
+    def test_no_builtin_gets_another_meaning(self):
+        for name in files_of_the_package():
+            self.assertEqual(bound_names(name) & set(dir(builtins)), set(), name)
+
+    def test_imports_do_not_go_in_circles(self):
+        imports = {name: {node.module.rpartition(".")[2] + ".py" for node in nodes_of(name)
+                          if isinstance(node, ast.ImportFrom) and node.module.startswith("flagsteps.")}
+                   for name in files_of_the_package()}
+        while imports:
+            ready = [name for name, needed in imports.items() if not needed & set(imports)]
+            self.assertNotEqual(ready, [])
+            for name in ready:
+                del imports[name]
 
     def test_statements_and_values(self):
         for name in files_of_the_package():
