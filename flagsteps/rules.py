@@ -14,6 +14,11 @@ def fulfils(state, clause):
     return first in state or second in state
 
 
+def broken_among(clauses, state):
+    """The ascending list of the numbers of those of the clauses that a state breaks."""
+    return [index for index, clause in enumerate(clauses) if not fulfils(state, clause)]
+
+
 class Rules:
     """Switches and clauses; they never change."""
 
@@ -53,7 +58,7 @@ class Rules:
     def broken_clauses(self, state):
         """The ascending list of the numbers of the clauses that a state breaks."""
         check_state(self._names, state)
-        return [index for index, clause in enumerate(self._clauses) if not fulfils(state, clause)]
+        return broken_among(self._clauses, state)
 
     def is_legal(self, state):
         """Whether a state breaks no clause."""

@@ -206,3 +206,24 @@ def cases():
 def listed(generator):
     """A function that returns all values of a generator in a list."""
     return lambda *arguments: list(generator(*arguments))
+
+
+def all_states(names):
+    """All states, legal or not, in the order that the document gives."""
+    return expected_legal(Rules.free(*names))
+
+
+def parts(rules):
+    """What can be seen of rules; they are not compared themselves."""
+    return rules.names, rules.clauses
+
+
+def wrong_names():
+    """Arguments that cannot be the names of rules, with the index that InvalidRules has."""
+    found = [(value, 0) for value in VALUES_OF_ALL_KINDS if not isinstance(value, tuple)]
+    found.extend([((), 0), (["a", "b"], 0), ("ab", 0), (("a", "a"), 1), (("a", "b", "a"), 2), (("a", "b", "b", "B"), 2)])
+    for value in NO_NAMES:
+        found.extend([((value,), 0), (("a", value), 1), (("a", "b", value, "a"), 2)])
+    found.extend([(TEN_NAMES + ("k",), 10), (TEN_NAMES + ("k", "l"), 10), (TEN_NAMES + ("b",), 10),
+                  (("b", "b") + TEN_NAMES, 1)])
+    return found

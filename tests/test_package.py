@@ -27,6 +27,12 @@ INTERFACE = {
                   "least_batch": None},
     "rollout.py": {"Rollout": ("__init__", "state", "target", "history", "remaining", "change", "attempt", "advance",
                                "undo", "redo", "resumed", "__enter__", "__exit__")},
+    "learning.py": {"common_clauses": None, "learn_rules": None, "closure": None, "redundant_clauses": None,
+                    "first_difference": None, "first_error": None},
+    "editing.py": {"Workbench": ("__init__", "present_rules", "history", "versions", "add_clause", "remove_clause",
+                                 "add_switch", "remove_switch", "rename", "undo", "redo", "apply_all", "replay")},
+    "notation.py": {"format_rules": None, "parse_rules": None, "format_log": None, "parse_log": None},
+    "codec.py": {"pack_bytes": None, "unpack_bytes": None, "encode_rollout": None, "decode_rollout": None},
 }
 # The arguments as the interface writes them, without self and cls.
 ARGUMENTS = {
@@ -46,6 +52,17 @@ ARGUMENTS = {
     "rollout.py": {"Rollout.__init__": "rules, state, *, goal=None", "Rollout.change": "*names",
                    "Rollout.attempt": "*names", "Rollout.advance": "count=1", "Rollout.undo": "", "Rollout.redo": "",
                    "Rollout.resumed": "rules, state, changes, *, goal=None"},
+    "learning.py": {"common_clauses": "names, states", "learn_rules": "names, states", "closure": "names, states",
+                    "redundant_clauses": "rules", "first_difference": "rules, other", "first_error": "rules, log"},
+    "editing.py": {"Workbench.__init__": "rules", "Workbench.versions": "", "Workbench.add_clause": "clause",
+                   "Workbench.remove_clause": "index", "Workbench.add_switch": "name",
+                   "Workbench.remove_switch": "name", "Workbench.rename": "name, later", "Workbench.undo": "",
+                   "Workbench.redo": "", "Workbench.apply_all": "operations",
+                   "Workbench.replay": "rules, operations"},
+    "notation.py": {"format_rules": "rules", "parse_rules": "text", "format_log": "rules, states",
+                    "parse_log": "rules, text"},
+    "codec.py": {"pack_bytes": "values", "unpack_bytes": "data", "encode_rollout": "rules, state, changes",
+                 "decode_rollout": "data"},
 }
 LIBRARY = {"itertools": {"combinations"}}
 DECORATORS = {"property", "classmethod", "staticmethod"}
