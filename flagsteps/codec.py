@@ -1,7 +1,6 @@
 """Rules, a state and changes as bytes."""
 
-from flagsteps.checks import (LETTERS, MOST_CLAUSES, MOST_LETTERS, MOST_NAMES, WORDS, check_switch,
-                              is_number)
+from flagsteps.checks import LETTERS, MOST_CLAUSES, MOST_LETTERS, MOST_NAMES, WORDS, check_switch, is_number
 from flagsteps.errors import DecodeError, InvalidCount
 from flagsteps.rules import Rules
 from flagsteps.states import check_legal
