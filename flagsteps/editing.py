@@ -107,7 +107,7 @@ class Workbench:
         for rules in self._versions[:self._many + 1]:
             yield rules
 
-    def _record(self, operation, rules):
+    def _put_in_effect(self, operation, rules):
         """Put an operation and the rules after it behind the operations in effect."""
         self._operations = self._operations[:self._many] + (operation,)
         self._versions = self._versions[:self._many + 1] + (rules,)
@@ -121,7 +121,7 @@ class Workbench:
             rules, result = _outcome(rules, operation)
             outcomes.append((operation, rules, result))
         for operation, later, _ in outcomes:
-            self._record(operation, later)
+            self._put_in_effect(operation, later)
         return [result for _, _, result in outcomes]
 
     def add_clause(self, clause):

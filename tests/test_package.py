@@ -3,6 +3,7 @@
 import ast
 import builtins
 import os
+import re
 import unittest
 
 ROOT = os.path.dirname(os.path.dirname(os.path.abspath(__file__)))
@@ -67,6 +68,12 @@ ARGUMENTS = {
 LIBRARY = {"itertools": {"combinations"}}
 DECORATORS = {"property", "classmethod", "staticmethod"}
 LEFT_OUT = (ast.Global, ast.AsyncFunctionDef, ast.AsyncFor, ast.AsyncWith, ast.Await, ast.Div, ast.Import)
+# What L12 bars: names, also with digits or underscores after them; beginnings of names, one of which attributes and
+# methods may have; and words, also in comments and strings.
+BARRED_NAMES = ("_cold", "_tuplegetter", "_outside", "_record", "_written_out", "_member_names")
+BARRED_BEGINNINGS = ("_pe_", "_dcw_", "_enum_", "_cm_", "_twin_re_", "_lay_", "_law_", "_stub_", "_sre", "_WallAttr")
+BEGINNING_FOR_ATTRIBUTES = "_wall"
+BARRED_WORDS = ("_wall", "_WallAttr")
 
 
 def files_of_the_package():
@@ -105,6 +112,42 @@ def bound_names(name):
         elif isinstance(node, ast.Name) and isinstance(node.ctx, ast.Store):
             found.add(node.id)
     return found | {node.name for node in ast.parse(text_of(name)).body if isinstance(node, ast.FunctionDef)}
+
+
+def strings_of(node):
+    """The strings that a node itself holds: its names, or the text of a literal."""
+    found = []
+    for _, value in ast.iter_fields(node):
+        values = value if isinstance(value, list) else [value]
+        found.extend(each for each in values if isinstance(each, str))
+    return found
+
+
+def names_in(text):
+    """All names in the text of a file, each with whether it belongs to an attribute or a method."""
+    tree = ast.parse(text)
+    methods = [each for node in ast.walk(tree) if isinstance(node, ast.ClassDef) for each in node.body]
+    found = set()
+    for node in ast.walk(tree):
+        # Literals count, because a slot is written as a string.
+        is_attribute = isinstance(node, (ast.Attribute, ast.MatchClass, ast.Constant))
+        is_method = isinstance(node, ast.FunctionDef) and node in methods
+        for string in strings_of(node):
+            found |= {(name, is_attribute or is_method) for name in string.split(".") if name.isidentifier()}
+    return found
+
+
+def is_barred(name, may_be_wall):
+    """Whether L12 bars a name."""
+    if re.fullmatch(f"({'|'.join(BARRED_NAMES)})[0-9_]*", name) or name.startswith(BARRED_BEGINNINGS):
+        return True
+    return name.startswith(BEGINNING_FOR_ATTRIBUTES) and not may_be_wall
+
+
+def barred_in(text):
+    """The sorted names and words in the text of a file that L12 bars."""
+    words = re.findall(f"\\b({'|'.join(BARRED_WORDS)})\\b", text)
+    return sorted({name for name, is_attribute in names_in(text) if is_barred(name, is_attribute)} | set(words))
 
 
 class InterfaceTest(unittest.TestCase):
@@ -181,6 +224,72 @@ class LanguageTest(unittest.TestCase):
                     self.assertEqual(node.decorator_list, [], name)
                 if isinstance(node, ast.FunctionDef):
                     self.assertLessEqual({ast.unparse(each) for each in node.decorator_list}, DECORATORS, name)
+
+    def test_no_name_is_barred(self):
+        for name in files_of_the_package():
+            self.assertEqual(barred_in(text_of(name)), [], name)
+            self.assertFalse(is_barred(name.removesuffix(".py"), False), name)
+
+
+class BarredNamesTest(unittest.TestCase):
+    """That the check of the package finds what L12 bars, wherever it stands, and nothing else."""
+
+    PLACES = (
+        "NAME = 1", "NAME: int = 1", "def NAME():\n    pass", "class NAME:\n    pass",
+        "def f(NAME):\n    pass", "def f(*NAME):\n    pass", "def f(**NAME):\n    pass",
+        "def f(*, NAME=0):\n    pass", "def f():\n    def NAME():\n        pass", "f(NAME=1)", "x = NAME",
+        "x = lambda NAME: 0", "x = [0 for NAME in y]", "x = f'{NAME}'", "if (NAME := 1):\n    pass",
+        "for NAME in x:\n    pass", "with x as NAME:\n    pass", "a, *NAME = x", "del NAME",
+        "try:\n    pass\nexcept E as NAME:\n    pass", "def f():\n    nonlocal NAME",
+        "match x:\n    case [NAME]:\n        pass", "match x:\n    case [*NAME]:\n        pass",
+        "match x:\n    case 1 as NAME:\n        pass",
+        "from flagsteps.NAME import x", "from flagsteps.rules import NAME", "from flagsteps.rules import x as NAME",
+        "class C:\n    NAME = 1")
+    PLACES_OF_ATTRIBUTES = (
+        "x.NAME = 1", "x.NAME()", "y = x.NAME", "class C:\n    def NAME(self):\n        pass",
+        "class C:\n    @property\n    def NAME(self):\n        return 1", "class C:\n    __slots__ = ('NAME',)",
+        "match x:\n    case C(NAME=1):\n        pass")
+
+    def found(self, place, name):
+        return barred_in(place.replace("NAME", name) + "\n")
+
+    def test_barred_names(self):
+        for name in BARRED_NAMES:
+            for end in ("", "_", "2", "_2", "__"):
+                for place in self.PLACES + self.PLACES_OF_ATTRIBUTES:
+                    with self.subTest(place=place, name=name + end):
+                        self.assertEqual(self.found(place, name + end), [name + end])
+
+    def test_barred_beginnings(self):
+        for beginning in BARRED_BEGINNINGS:
+            for end in ("", "x", "2"):
+                for place in self.PLACES + self.PLACES_OF_ATTRIBUTES:
+                    with self.subTest(place=place, name=beginning + end):
+                        self.assertEqual(self.found(place, beginning + end), [beginning + end])
+
+    def test_a_beginning_that_only_attributes_and_methods_may_have(self):
+        for place in self.PLACES:
+            with self.subTest(place=place):
+                self.assertEqual(self.found(place, "_walls"), ["_walls"])
+        for place in self.PLACES_OF_ATTRIBUTES:
+            with self.subTest(place=place):
+                self.assertEqual(self.found(place, "_walls"), [])
+                self.assertEqual(self.found(place, "_wall"), ["_wall"])
+
+    def test_barred_words(self):
+        for word in BARRED_WORDS:
+            for place in ("# a NAME here", "x = 'a NAME here'", "'NAME'", "x = b'NAME'", "x = f'a NAME {y}'"):
+                with self.subTest(place=place, word=word):
+                    self.assertEqual(self.found(place, word), [word])
+
+    def test_other_names(self):
+        others = ("record", "_records", "_record_rows", "_recorded", "x_record", "_colder", "_outsider", "_law",
+                  "_layer", "_enumerated", "_stubs", "_pet", "_sr", "wall", "x_wall", "WallAttr", "_Wall")
+        for name in others:
+            for place in self.PLACES + self.PLACES_OF_ATTRIBUTES:
+                with self.subTest(place=place, name=name):
+                    self.assertEqual(self.found(place, name), [])
+        self.assertEqual(barred_in("# _record\nx = 'a _record here'\n"), [])
 
 
 if __name__ == "__main__":
